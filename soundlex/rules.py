@@ -30,6 +30,11 @@ def is_character(number):
     return number < CHARACTERS_END
 
 
+def all_characters(row):
+    """Whether a row is of characters only, be they such as may stand in a word or not."""
+    return all([is_character(number) for number in row])
+
+
 def may_stand(number):
     """Whether a number is a character that may stand in a word."""
     return is_character(number) and number > BLANK and number != DELETE
@@ -62,3 +67,8 @@ def is_same(word, other):
 def order_of(word):
     """What words are put in order by."""
     return (word.reading, word.cost, word.text)
+
+
+def likely_order_of(word):
+    """What words are put in order by where the likeliest is to be first."""
+    return (word.cost, word.reading, word.text)

@@ -9,6 +9,12 @@ WRITE = 3
 COUNT = 4
 PUT = 5
 DROP = 6
+GET = 7
+NUMBER = 8
+FIND = 9
+BEGINS = 10
+GOES = 11
+LIKELY = 12
 
 
 class UnknownCall(ValueError):
@@ -50,6 +56,37 @@ def take_word(given):
     return Word(reading, text, left, right, cost)
 
 
+def number_answer(given, lexicon):
+    """What number answers to its arguments, which stand in front."""
+    reading = given.take_row()
+    text = given.take_row()
+    return lexicon.number(reading, text)
+
+
+def likely_answer(given, lexicon):
+    """What likely answers to its arguments, which stand in front."""
+    rank = given.take_number()
+    row = given.take_row()
+    return lexicon.likely(rank, row)
+
+
+def asked_answer(call, given, lexicon):
+    """What a call that only asks answers to its arguments, which stand in front."""
+    if call == GET:
+        return lexicon.get(given.take_number())
+    if call == NUMBER:
+        return number_answer(given, lexicon)
+    if call == FIND:
+        return lexicon.find(given.take_row())
+    if call == BEGINS:
+        return lexicon.begins(given.take_row())
+    if call == GOES:
+        return lexicon.goes(given.take_row())
+    if call == LIKELY:
+        return likely_answer(given, lexicon)
+    raise UnknownCall(f"no call has the number {call}")
+
+
 def answer_of(given, lexicon):
     """What the call in front answers, as a list of numbers."""
     call = given.take_number()
@@ -65,7 +102,7 @@ def answer_of(given, lexicon):
         return lexicon.put(take_word(given))
     if call == DROP:
         return lexicon.drop(given.take_number())
-    raise UnknownCall(f"no call has the number {call}")
+    return asked_answer(call, given, lexicon)
 
 
 def answers(calls):

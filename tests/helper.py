@@ -5,7 +5,6 @@ import re
 from soundlex.words import answers
 
 BEGIN, WRITE, COUNT = [1], [3], [4]
-MOST_CALL_NUMBERS = 47000
 
 
 def row(text):
@@ -17,33 +16,64 @@ def octets(text):
     return list(text.encode("utf-8")) if isinstance(text, str) else list(text)
 
 
+def counted(text):
+    return [len(row(text))] + row(text)
+
+
 def read(text):
     data = octets(text)
     return [2, len(data)] + data
 
 
 def put(reading, text, left=0, right=0, cost=0):
-    return [5, left, right, cost, len(row(reading))] + row(reading) + [len(row(text))] + row(text)
+    return [5, left, right, cost] + counted(reading) + counted(text)
 
 
 def drop(number):
     return [6, number]
 
 
-def parted(told):
-    """The answers of a list of calls, each a list of its own."""
+def get(number):
+    return [7, number]
+
+
+def number_of(reading, text):
+    return [8] + counted(reading) + counted(text)
+
+
+def find(asked):
+    return [9] + counted(asked)
+
+
+def begins(asked):
+    return [10] + counted(asked)
+
+
+def goes(asked):
+    return [11] + counted(asked)
+
+
+def likely(rank, asked):
+    return [12, rank] + counted(asked)
+
+
+def parted(numbers):
+    """Rows that stand one behind another, each with its length before it, as lists of their own."""
     parts = []
-    while told:
-        length = told[0]
-        assert 0 < length < len(told) + 1, "a length that is none"
-        parts.append(told[1:1 + length])
-        told = told[1 + length:]
+    at = 0
+    while at < len(numbers):
+        end = at + 1 + numbers[at]
+        assert at < end <= len(numbers), "a length that is none"
+        parts.append(numbers[at + 1:end])
+        at = end
     return parts
 
 
 def run(*calls):
     """What these calls answer on one new lexicon, each call's answer a list of its own."""
-    return parted(answers([number for call in calls for number in call]))
+    told = parted(answers([each for call in calls for each in call]))
+    assert [] not in told, "an answer without a number"
+    return told
 
 
 def written(text):
@@ -54,6 +84,10 @@ def written(text):
 
 def line(reading, text="x", left=0, right=0, cost=0):
     return f"{reading} {text} {left} {right} {cost}\n"
+
+
+def lexicon_text(words):
+    return "".join([line(*word) for word in words])
 
 
 def lines(count, start=0):
@@ -136,6 +170,62 @@ class PlainLexicon:
         del self.entries[self.order()[number]]
         return [0]
 
+    def get(self, number):
+        if number >= len(self.entries):
+            return [-4]
+        pair = self.order()[number]
+        told = [0, *self.entries[pair]]
+        for part in pair:
+            told += [len(part), *map(ord, part)]
+        return told
+
+    def number(self, reading, text):
+        pair = (reading, text)
+        return [self.order().index(pair)] if pair in self.entries else [-5]
+
+    def how_many(self, reading):
+        return sum(1 for pair in self.entries if pair[0] == reading)
+
+    def first(self, reading):
+        return sum(1 for pair in self.entries if pair[0] < reading)
+
+    def begins(self, asked):
+        told = []
+        for length in range(len(asked) + 1):
+            if self.how_many(asked[:length]):
+                told += [length, self.first(asked[:length]), self.how_many(asked[:length])]
+        return [len(told) // 3, *told]
+
+    def going_on(self, asked):
+        return [pair for pair in self.entries if pair[0].startswith(asked)]
+
+    def likely(self, rank, asked):
+        left = self.going_on(asked)
+        if rank >= len(left):
+            return [-5]
+        for _ in range(rank):
+            left.remove(min(left, key=lambda pair: (self.entries[pair][2], pair)))
+        return [self.order().index(min(left, key=lambda pair: (self.entries[pair][2], pair)))]
+
+    def asked_answer(self, call):
+        """What a call that asks by rows answers."""
+        ranks, rows = ([call[1]], call[2:]) if call[0] == 12 else ([], call[1:])
+        parts = parted(rows)
+        if max(map(len, parts)) > 64:
+            return [-1]
+        if any(0xD800 <= n <= 0xDFFF or n > 0x10FFFF for part in parts for n in part):
+            return [-3]
+        texts = ["".join(map(chr, part)) for part in parts]
+        if call[0] == 8:
+            return self.number(*texts)
+        if call[0] == 9:
+            return [self.how_many(*texts), self.first(*texts)]
+        if call[0] == 10:
+            return self.begins(*texts)
+        if call[0] == 11:
+            return [len(self.going_on(*texts)), self.first(*texts)]
+        return self.likely(*ranks, *texts)
+
     def answer(self, call):
         """What a call, a list of numbers, answers."""
         if call[0] == 1:
@@ -150,4 +240,8 @@ class PlainLexicon:
         if call[0] == 5:
             end = 5 + call[4]
             return self.put(call[5:end], call[end + 1:], *call[1:4])
-        return self.drop(call[1])
+        if call[0] == 6:
+            return self.drop(call[1])
+        if call[0] == 7:
+            return self.get(call[1])
+        return self.asked_answer(call)

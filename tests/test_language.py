@@ -28,6 +28,8 @@ UNUSED = set(
 BANNED_WORDS = re.compile(
     r"\b(type|typing|typing_extensions|enum|Enum|IntEnum|StrEnum|Flag|IntFlag|Generic|Protocol|ABC|ABCMeta|namedtuple|"
     r"NamedTuple|TypedDict|TYPE_CHECKING|abstractmethod)\b|dataclass|overload|contextmanager")
+KEYWORDS = {"sorted": {"key", "reverse"}, "min": {"key", "default"}, "max": {"key", "default"}, "sum": {"start"},
+            "enumerate": {"start"}, "zip": {"strict"}}
 STATEMENTS = (ast.Assign, ast.AugAssign, ast.If, ast.While, ast.For, ast.Return, ast.Break, ast.Continue, ast.Pass,
               ast.Raise, ast.Try, ast.Expr, ast.FunctionDef, ast.ClassDef, ast.ImportFrom)
 EXPRESSIONS = (ast.Constant, ast.Name, ast.List, ast.Tuple, ast.Dict, ast.Set, ast.BinOp, ast.UnaryOp, ast.BoolOp,
@@ -230,6 +232,20 @@ class Forms(unittest.TestCase):
             for part in tree.body:
                 if isinstance(part, (ast.FunctionDef, ast.ClassDef)):
                     self.assertEqual(top & set(bound_names(part)), set(), path.name)
+
+    def test_keywords(self):
+        for name, node in nodes(ast.Call):
+            given = {part.arg for part in node.keywords}
+            if given:
+                self.assertIsInstance(node.func, ast.Name, name)
+                self.assertLessEqual(given, KEYWORDS.get(node.func.id, set()), name)
+            for part in node.keywords:
+                if part.arg == "key":
+                    self.assertIsInstance(part.value, (ast.Name, ast.Lambda), name)
+
+    def test_lambdas(self):
+        placed = [(name, node.lineno, ast.dump(node.args)) for name, node in nodes(ast.Lambda)]
+        self.assertEqual(len(placed), len(set(placed)))
 
     def test_walked_at_once(self):
         for path in FILES:
